@@ -119,6 +119,10 @@ func unknownVec(width int) vec {
 	return vec{width: width}
 }
 
+func undrivenVec(width int) vec {
+	return vec{width: width, what: ^uint64(0)}.cut()
+}
+
 // truthVec is one bit, 0 or 1.
 func truthVec(holds bool) vec {
 	if holds {
@@ -164,6 +168,14 @@ func settled(width int, zeros, ones uint64) vec {
 func (v vec) signedNumber() int64 {
 	above := uint64(MaxWidth - v.width)
 	return int64(v.what<<above) >> above
+}
+
+// numberBelow is the number of a known vector, if it is below limit.
+func (v vec) numberBelow(limit int) (int, bool) {
+	if !v.isKnown() || v.what >= uint64(limit) {
+		return 0, false
+	}
+	return int(v.what), true
 }
 
 // text writes a vector out, the highest bit first.
@@ -212,6 +224,21 @@ func (v vec) resized(width int, signed bool) vec {
 		return out.filled(ahead, v.highest())
 	}
 	return out.filled(ahead, truthVec(false))
+}
+
+// joined is v with w behind it.
+func (v vec) joined(w vec) vec {
+	up := uint64(w.width)
+	return vec{width: v.width + w.width, known: v.known<<up | w.known, what: v.what<<up | w.what}
+}
+
+// covered has the bits of w where mask has them set.
+func (v vec) covered(mask uint64, w vec) vec {
+	return vec{
+		width: v.width,
+		known: v.known&^mask | w.known&mask,
+		what:  v.what&^mask | w.what&mask,
+	}
 }
 
 // resolved is what two drivers of one wire give together.
