@@ -58,14 +58,15 @@ func (b *bencher) pick(kinds ...int) int {
 	}
 }
 
-func (b *bencher) fitted(e impl.Ex, width int) impl.Ex {
+// fitted is an Ex brought to a width.
+func (c *choices) fitted(e impl.Ex, width int) impl.Ex {
 	if e.Width == width {
 		return e
 	}
-	if e.Width > width && b.below(2) == 0 {
-		return impl.Ex{Op: impl.OpPart, Width: width, N: b.below(e.Width - width + 1), Kids: []impl.Ex{e}}
+	if e.Width > width && c.below(2) == 0 {
+		return impl.Ex{Op: impl.OpPart, Width: width, N: c.below(e.Width - width + 1), Kids: []impl.Ex{e}}
 	}
-	return impl.Ex{Op: impl.OpSize, Width: width, Signed: e.Width < width && b.below(2) == 0, Kids: []impl.Ex{e}}
+	return impl.Ex{Op: impl.OpSize, Width: width, Signed: e.Width < width && c.below(2) == 0, Kids: []impl.Ex{e}}
 }
 
 func (b *bencher) ex(width, deep int) impl.Ex {
