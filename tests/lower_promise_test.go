@@ -128,16 +128,27 @@ func TestLoweredAsSimulated(t *testing.T) {
 		}
 		counts[fmt.Sprint("clocks ", len(n.Clocks))]++
 	}
-	wanted := []string{"clocks 1", "clocks 2", fmt.Sprint("op ", impl.OpLt, true), fmt.Sprint("op ", impl.OpLe, true), fmt.Sprint("op ", impl.OpSize, true)}
+	wantsOften(t, counts, 50, append(allCellOps(), "clocks 1", "clocks 2"))
+}
+
+// allCellOps are all operations of cells, signed or not where that is looked at.
+func allCellOps() []string {
+	all := []string{fmt.Sprint("op ", impl.OpLt, true), fmt.Sprint("op ", impl.OpLe, true), fmt.Sprint("op ", impl.OpSize, true)}
 	for op := impl.OpAnd; op <= impl.OpReg; op++ {
 		switch op {
 		case impl.OpDiv, impl.OpRem, impl.OpSame, impl.OpSig, impl.OpMem, impl.OpPick:
 		default:
-			wanted = append(wanted, fmt.Sprint("op ", op, false))
+			all = append(all, fmt.Sprint("op ", op, false))
 		}
 	}
-	for _, what := range wanted {
-		if counts[what] < 50 {
+	return all
+}
+
+// wantsOften fails where one of what was counted is too seldom.
+func wantsOften(t *testing.T, counts map[string]int, least int, all []string) {
+	t.Helper()
+	for _, what := range all {
+		if counts[what] < least {
 			t.Errorf("%s: only %d", what, counts[what])
 		}
 	}

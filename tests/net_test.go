@@ -323,47 +323,53 @@ func TestNetRun(t *testing.T) {
 	}
 }
 
-func TestWrongSteps(t *testing.T) {
-	right := stepsOf("0101 0/t-; 0110 1/-t; 0111 1/tt")
+// rightSteps are of inputs of 4 and 1 bits, and two clocks.
+const rightSteps = "0101 0/t-; 0110 1/-t; 0111 1/tt"
+
+// wrongSteps are like those, but for one of them.
+func wrongSteps() map[string][]impl.Step {
 	bad := func(change func(s *impl.Step)) []impl.Step {
-		steps := stepsOf("0101 0/t-; 0110 1/-t; 0111 1/tt")
+		steps := stepsOf(rightSteps)
 		change(&steps[1])
 		return steps
 	}
+	return map[string][]impl.Step{
+		"an empty step":            make([]impl.Step, 1),
+		"an input less":            bad(func(s *impl.Step) { s.Ins = s.Ins[:1] }),
+		"an input more":            bad(func(s *impl.Step) { s.Ins = append(s.Ins, "0") }),
+		"a clock less":             bad(func(s *impl.Step) { s.Ticks = s.Ticks[:1] }),
+		"a clock more":             bad(func(s *impl.Step) { s.Ticks = append(s.Ticks, false) }),
+		"no bits":                  bad(func(s *impl.Step) { s.Ins[1] = "" }),
+		"few bits":                 bad(func(s *impl.Step) { s.Ins[0] = "000" }),
+		"many bits":                bad(func(s *impl.Step) { s.Ins[0] = "00000" }),
+		"bits that are not known":  bad(func(s *impl.Step) { s.Ins[0] = "0x00" }),
+		"a bit that is not driven": bad(func(s *impl.Step) { s.Ins[1] = "z" }),
+		"no vector":                bad(func(s *impl.Step) { s.Ins[0] = "0200" }),
+		"a very long text":         bad(func(s *impl.Step) { s.Ins[0] = zeros(1 << 20) }),
+	}
+}
+
+func TestWrongSteps(t *testing.T) {
 	wrong := theNet()
 	wrong.Regs[0].Init = "x"
-	for what, c := range map[string]struct {
-		n     impl.Net
-		steps []impl.Step
-		want  int
-	}{
-		"right":                     {theNet(), right, impl.OK},
-		"no steps":                  {theNet(), nil, impl.OK},
-		"nothing at all":            {impl.Net{}, nil, impl.OK},
-		"steps of nothing":          {impl.Net{}, make([]impl.Step, 3), impl.OK},
-		"no netlist":                {wrong, right, impl.ErrBad},
-		"an empty step":             {theNet(), make([]impl.Step, 1), impl.ErrBad},
-		"an input less":             {theNet(), bad(func(s *impl.Step) { s.Ins = s.Ins[:1] }), impl.ErrBad},
-		"an input more":             {theNet(), bad(func(s *impl.Step) { s.Ins = append(s.Ins, "0") }), impl.ErrBad},
-		"a clock less":              {theNet(), bad(func(s *impl.Step) { s.Ticks = s.Ticks[:1] }), impl.ErrBad},
-		"a clock more":              {theNet(), bad(func(s *impl.Step) { s.Ticks = append(s.Ticks, false) }), impl.ErrBad},
-		"no bits":                   {theNet(), bad(func(s *impl.Step) { s.Ins[1] = "" }), impl.ErrBad},
-		"few bits":                  {theNet(), bad(func(s *impl.Step) { s.Ins[0] = "000" }), impl.ErrBad},
-		"many bits":                 {theNet(), bad(func(s *impl.Step) { s.Ins[0] = "00000" }), impl.ErrBad},
-		"bits that are not known":   {theNet(), bad(func(s *impl.Step) { s.Ins[0] = "0x00" }), impl.ErrBad},
-		"a bit that is not driven":  {theNet(), bad(func(s *impl.Step) { s.Ins[1] = "z" }), impl.ErrBad},
-		"no vector":                 {theNet(), bad(func(s *impl.Step) { s.Ins[0] = "0200" }), impl.ErrBad},
-		"a very long text":          {theNet(), bad(func(s *impl.Step) { s.Ins[0] = zeros(1 << 20) }), impl.ErrBad},
-		"as many steps as can be":   {impl.Net{}, make([]impl.Step, 4096), impl.OK},
-		"a step more":               {impl.Net{}, make([]impl.Step, 4097), impl.ErrLong},
-		"a step more of no netlist": {wrong, make([]impl.Step, 4097), impl.ErrLong},
-		"wrong steps, one more":     {theNet(), make([]impl.Step, 4097), impl.ErrLong},
-	} {
-		rows, code := holdNetRun(t, c.n, c.steps)
-		if code != c.want || code != impl.OK && rows != nil || code == impl.OK && len(rows) != len(c.steps) {
+	wantsRun := func(what string, n impl.Net, steps []impl.Step, want int) {
+		rows, code := holdNetRun(t, n, steps)
+		if code != want || code != impl.OK && rows != nil || code == impl.OK && len(rows) != len(steps) {
 			t.Errorf("%s: code %d, %d rows", what, code, len(rows))
 		}
 	}
+	wantsRun("right", theNet(), stepsOf(rightSteps), impl.OK)
+	wantsRun("no steps", theNet(), nil, impl.OK)
+	wantsRun("nothing at all", impl.Net{}, nil, impl.OK)
+	wantsRun("steps of nothing", impl.Net{}, make([]impl.Step, 3), impl.OK)
+	wantsRun("no netlist", wrong, stepsOf(rightSteps), impl.ErrBad)
+	for what, steps := range wrongSteps() {
+		wantsRun(what, theNet(), steps, impl.ErrBad)
+	}
+	wantsRun("as many steps as can be", impl.Net{}, make([]impl.Step, impl.MaxList), impl.OK)
+	wantsRun("a step more", impl.Net{}, make([]impl.Step, impl.MaxList+1), impl.ErrLong)
+	wantsRun("a step more of no netlist", wrong, make([]impl.Step, impl.MaxList+1), impl.ErrLong)
+	wantsRun("wrong steps, one more", theNet(), make([]impl.Step, impl.MaxList+1), impl.ErrLong)
 }
 
 // netPieces are all numbers, texts and truths of a netlist that can be changed.
