@@ -88,12 +88,14 @@ func TestFullNetCompiled(t *testing.T) {
 		t.Errorf("%d instructions, %d slots", len(c.Instrs), c.Slots)
 	}
 	for what, change := range map[string]func(n *impl.Net){
-		"an input more":   func(n *impl.Net) { n.Ins = append(slices.Clone(n.Ins), impl.NetPort{Name: "more", Width: 1}) },
-		"a clock more":    func(n *impl.Net) { n.Clocks = append(slices.Clone(n.Clocks), "more") },
-		"an out more":     func(n *impl.Net) { n.Outs = append(slices.Clone(n.Outs), impl.NetOut{Name: "more"}) },
-		"a check more":    func(n *impl.Net) { n.Checks = append(slices.Clone(n.Checks), impl.NetOut{Name: "more"}) },
-		"a register more": func(n *impl.Net) { n.Regs = append(slices.Clone(n.Regs), impl.NetReg{Name: "more", Width: 1, Init: "0"}) },
-		"a cell more":     func(n *impl.Net) { n.Cells = append(slices.Clone(n.Cells), bitsCell("0")) },
+		"an input more": func(n *impl.Net) { n.Ins = append(slices.Clone(n.Ins), impl.NetPort{Name: "more", Width: 1}) },
+		"a clock more":  func(n *impl.Net) { n.Clocks = append(slices.Clone(n.Clocks), "more") },
+		"an out more":   func(n *impl.Net) { n.Outs = append(slices.Clone(n.Outs), impl.NetOut{Name: "more"}) },
+		"a check more":  func(n *impl.Net) { n.Checks = append(slices.Clone(n.Checks), impl.NetOut{Name: "more"}) },
+		"a register more": func(n *impl.Net) {
+			n.Regs = append(slices.Clone(n.Regs), impl.NetReg{Name: "more", Width: 1, Init: "0"})
+		},
+		"a cell more": func(n *impl.Net) { n.Cells = append(slices.Clone(n.Cells), bitsCell("0")) },
 	} {
 		more := n
 		change(&more)
