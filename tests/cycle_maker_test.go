@@ -86,14 +86,18 @@ func (w *wirer) cell() {
 			w.add(c)
 		}
 	case 8:
-		op := impl.OpNot + w.below(6)
-		if op > impl.OpNeg {
-			width = 1
-		}
-		w.add(cellOf(op, width, a))
+		w.unary(a, width)
 	default:
 		w.binary(a, width)
 	}
+}
+
+func (w *wirer) unary(a, width int) {
+	op := impl.OpNot + w.below(6)
+	if op > impl.OpNeg {
+		width = 1
+	}
+	w.add(cellOf(op, width, a))
 }
 
 func (w *wirer) binary(a, width int) {

@@ -119,17 +119,7 @@ func TestBentNetsCompiled(t *testing.T) {
 	for seed := range uint64(3000) {
 		w := wirerOf(seed + 9000)
 		n := w.net(1 + w.below(15))
-		numbers, texts, signs := netPieces(&n)
-		switch w.below(4) {
-		case 0:
-			text := texts[w.below(len(texts))]
-			*text = w.oneOf("", *text+"0", "x", *texts[w.below(len(texts))])
-		case 1:
-			sign := signs[w.below(len(signs))]
-			*sign = !*sign
-		default:
-			*numbers[w.below(len(numbers))] += []int{1, -1, 2, -2, 31}[w.below(5)]
-		}
+		bentNet(&w.choices, &n)
 		_, code := holdCompiled(t, n)
 		codes[code]++
 	}
