@@ -47,7 +47,7 @@ func TestChipOK(t *testing.T) {
 	}
 }
 
-// wantsPlace holds PlaceOK against what is told; where it is none there is no cost.
+// wantsPlace holds PlaceOK against what is told; where it is none there is no cost, and nothing to route.
 func wantsPlace(t *testing.T, what string, p impl.Packed, c impl.Chip, tiles []int, want bool) {
 	t.Helper()
 	if got := impl.PlaceOK(p, c, tiles); got != want || placeTold(p, c, tiles) != want {
@@ -55,6 +55,12 @@ func wantsPlace(t *testing.T, what string, p impl.Packed, c impl.Chip, tiles []i
 	}
 	if cost := holdCost(t, p, c, tiles); (cost < 0) == want {
 		t.Errorf("%s on %v: %v: cost %d", what, c, tiles, cost)
+	}
+	if want {
+		return
+	}
+	if nets, code := impl.Route(p, c, tiles); code != impl.ErrBad || len(nets) != 0 || impl.RouteOK(p, c, tiles, make([][]impl.Hop, len(p.Ins)+len(p.Blocks))) {
+		t.Errorf("%s on %v: %v: Route: code %d, %v", what, c, tiles, code, nets)
 	}
 }
 
